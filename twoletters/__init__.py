@@ -1,0 +1,1 @@
+"""Twoletters: what is so of all real numbers, in two letters."""
