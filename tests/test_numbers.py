@@ -125,7 +125,7 @@ class OrderTest(unittest.TestCase):
             self.assertEqual(order(fraction, ROOT), -side)
             self.assertEqual(sign_in((-end.numerator, end.denominator), ROOT), side)
             parted = Fraction(*between(ROOT, fraction))
-            self.assertTrue(min(end, parted) == end if side < 0 else max(end, parted) == parted)
+            self.assertEqual(naive.sign(parted - end), side)
             self.assertEqual(order(ROOT, (parted.numerator, parted.denominator)), side)
 
     def test_roots_close_to_a_root(self):
@@ -164,7 +164,7 @@ class OrderTest(unittest.TestCase):
 
     def test_between_numbers_next_to_one_another(self):
         for n in (-7, 0, 5):
-            for one, other in (((n, 1), (n + 1, 1)), ((n * 10 ** 9 + 1, 10 ** 9), (n * 10 ** 9 + 2, 10 ** 9))):
+            for one, other in (((n, 1), (n + 1, 1)), ((n * 10 ** 9 + 1, 10 ** 9), (n * 10 ** 9 + 3, 10 ** 9))):
                 found = Fraction(*between(other, one))
                 self.assertTrue(Fraction(*one) < found < Fraction(*other))
 
@@ -185,7 +185,7 @@ class SignTest(unittest.TestCase):
 
     def test_rows_with_roots_in_common(self):
         row = times(TWO, times(THREE, (-1, 1)))
-        self.assertEqual([sign_in(row, each) for each in (ROOT, BACK, THIRD, (1, 1), CUBE, (2, 1))], [0, 0, 0, 0, -1, 1])
+        self.assertEqual([sign_in(row, each) for each in (ROOT, BACK, THIRD, (1, 1), CUBE, (3, 2))], [0, 0, 0, 0, 1, -1])
         self.assertEqual(sign_in(THREE, (times(TWO, THREE), 2)), -1)
         self.assertEqual(sign_in(TWO, (times(TWO, THREE), 2)), 0)
 
@@ -301,9 +301,9 @@ class ValueTest(unittest.TestCase):
         found = number_in(row, number)
         self.assertIs(is_number(found), True)
         # The value at both ends of a narrow stretch tells about where it lies.
-        low, high = stretch_of(number, 800)
+        low, high = stretch_of(number, 320)
         expected = naive.value(row, low)
-        self.assertLess(abs(sum(stretch_of(found, 400)) / 2 - expected), Fraction(1, 10 ** 20))
+        self.assertLess(abs(sum(stretch_of(found, 200)) / 2 - expected), Fraction(1, 10 ** 20))
 
 
 if __name__ == "__main__":
