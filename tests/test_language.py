@@ -169,7 +169,7 @@ class LanguageTest(unittest.TestCase):
         for path, tree in TREES.items():
             for name in bound_names(tree):
                 self.assertNotIn(name, BARRED, path.name)
-                self.assertTrue(name.startswith("__") or not hasattr(builtins, name), f"{path.name}: {name}")
+                self.assertTrue(name.startswith("_") or not hasattr(builtins, name), f"{path.name}: {name}")
                 if name.startswith("__"):
                     self.assertIn(name, {"__init__"}, path.name)
         for where, node in self.each(ast.Name):

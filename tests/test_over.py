@@ -6,7 +6,7 @@ from fractions import Fraction
 
 from tests import naive
 from tests.naive_over import TINY, roots_over
-from twoletters.numbers import is_number, order, sign_in
+from twoletters.numbers import is_number, number_in, number_times, order, sign_in
 from twoletters.over import degree_at, many_common, many_roots, roots_between, split
 from twoletters.polys import poly_product, poly_sum, turns_of
 from twoletters.roots import count_roots, roots_of
@@ -135,6 +135,30 @@ class RootsTest(unittest.TestCase):
         self.assertEqual([many_common(one, other, ROOT), many_common(other, one, BACK), many_common(one, other, (FOUR, 1))], [1, 1, 1])
 
 
+CUBIC = (1, -3, 0, 1)
+
+
+def quotient(number, other):
+    """One NUMBER over another one."""
+    if isinstance(other[0], int):
+        turned = Fraction(other[1], other[0])
+        return number_times(number, (turned.numerator, turned.denominator))
+    row, index = other
+    turned = plain(tuple(reversed(row)))
+    below = count_roots(row, None, (0, 1))
+    many = count_roots(row, None, None)
+    # Those above 0 and those below 0 change their order.
+    index = below - 1 - index if index < below else many - 1 - (index - below)
+    return number_times(number, (turned, index))
+
+
+def random_line(luck):
+    low = naive.cut([luck.randint(-2, 2) for _ in range(luck.randint(0, 3))])
+    high = luck.choice([(1,), (1,), (0, 1), (-1, 1), TWO, (3, 0, 1), (1, -3, 0, 1)])
+    # A line without a root at a number at which it is nought would make all nought.
+    return (low, high) if low and high not in (TWO, CUBIC) else ((luck.randint(1, 3),), high)
+
+
 def random_poly(luck, high, wide):
     return naive.poly_cut([naive.cut([luck.randint(-3, 3) for _ in range(luck.randint(0, wide))]) for _ in range(luck.randint(0, high))])
 
@@ -181,6 +205,42 @@ class AllTogetherTest(unittest.TestCase):
                     self.assertEqual(many_roots(poly, number), many_roots(poly, like))
                     self.assertEqual(roots_between(poly, number, (-1, 1), (1, 1)), roots_between(poly, like, (-1, 1), (1, 1)))
                 self.assertEqual(many_common(one, other, number), many_common(other, one, like))
+
+    def test_roots_that_are_known(self):
+        luck = random.Random(184)
+        for _ in range(120):
+            number = luck.choice([ROOT, BACK, HALF, (FOUR, 2), (FOUR, 3), (CUBIC, 0), (CUBIC, 2), (1, 2), (-2, 1)])
+            factors = [random_line(luck) for _ in range(luck.randint(1, 4))]
+            one = self.product_of(luck, [luck.choice(factors) for _ in range(luck.randint(1, 4))])
+            other = self.product_of(luck, [luck.choice(factors) for _ in range(luck.randint(1, 3))])
+            low, high = (luck.randint(-3, 3), 1), (luck.choice([-3, -1, 1, 3, 5]), 2)
+            roots, beside = self.known_roots(one[1], number), self.known_roots(other[1], number)
+            self.assertEqual(many_roots(one[0], number), len(roots))
+            self.assertEqual(many_roots(other[0], number), len(beside))
+            within = [root for root in roots if order(root, low) > 0 and order(root, high) <= 0]
+            self.assertEqual(roots_between(one[0], number, low, high), len(within))
+            shared = [root for root in roots if any(order(root, each) == 0 for each in beside)]
+            self.assertEqual(many_common(one[0], other[0], number), len(shared))
+            self.assertEqual(many_common(other[0], one[0], number), len(shared))
+
+    def product_of(self, luck, lines):
+        """The product of some lines, with factors without roots ahead at times, and the lines."""
+        found = ((luck.choice([-2, 1, 3]),),)
+        if luck.random() < 0.4:
+            found = poly_product(found, ((1, luck.randint(-1, 1), 1), (), (luck.randint(1, 2), 0, 1)))
+        for line in lines:
+            found = poly_product(found, line)
+        return found, lines
+
+    def known_roots(self, lines, number):
+        """Those of lines A + B y are - A / B, if B is not 0 there; each once."""
+        found = []
+        for low, high in lines:
+            if sign_in(high, number):
+                root = quotient(number_in(tuple(-n for n in low), number), number_in(high, number))
+                if not any(order(root, each) == 0 for each in found):
+                    found.append(root)
+        return found
 
     def test_over_roots(self):
         luck = random.Random(183)

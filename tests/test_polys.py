@@ -143,6 +143,15 @@ class DivisorTest(unittest.TestCase):
         self.assertEqual(common(((-1, 0, 1), (1, 1)), ((1, 1),)), ((1, 1),))
         self.assertEqual(common(((-1, 0, 1), (1, 1)), ((-1, 1), (1,))), ((-1, 1), (1,)))
 
+    def test_rows_that_are_0_at_a_power_of_2(self):
+        for k in range(1, 12):
+            zero = (-2 ** k, 1)
+            for one in (((1,), (1, 1)), ((1,), (0, 1)), ((1, 1),), ((3,), (), (2, 1)), ((-1, 1), (1, 1))):
+                self.assertEqual(common(one, (zero, zero)), ONE)
+                self.assertEqual(common((zero, zero), one), ONE)
+                self.assertEqual(common(one, ((1,), zero)), ONE)
+                self.assertEqual(common(poly_product((zero, zero), one), poly_product(one, one)), one)
+
     def test_content_and_bare(self):
         self.assertEqual([content(((3,),)), content(((0, 4),)), content(((2, 2), (-4,))), content(((), (-2, 0, 2)))], [(1,), (0, 1), (1,), (-1, 0, 1)])
         self.assertEqual([bare(((3,),)), bare(((0, 4),)), bare(((2, 2), (-4,))), bare(((-1, 0, 1), (1, 1)))], [ONE, ONE, ((-1, -1), (2,)), ((-1, 1), (1,))])

@@ -6,7 +6,7 @@ from twoletters.rows import check_row
 from twoletters.sums import point_product, point_sum, point_value
 from twoletters.wholes import fraction_of, is_whole
 
-MOST = 10 ** 6
+MOST = 1000000
 
 
 def is_number(value):

@@ -152,7 +152,8 @@ def poly_common(poly, other):
     poly, other = poly_prime(poly), poly_prime(other)
     bits = min(poly_width(poly), poly_width(other)) + 2
     while True:
-        row = whole_common(packed_poly(poly, bits), packed_poly(other, bits))
+        # The one with the longer numbers may lose its head there, or be 0.
+        row = whole_common(trimmed(packed_poly(poly, bits)), trimmed(packed_poly(other, bits)))
         found = poly_prime(unpacked_poly(row, bits))
         if found == ONE:
             return found

@@ -83,13 +83,6 @@ def row_times(row, other):
     return tuple(found)
 
 
-def row_power(row, many):
-    found = (1,)
-    for _ in range(many):
-        found = row_times(found, row)
-    return found
-
-
 def row_derivative(row):
     return tuple([k * number for k, number in enumerate(row)][1:])
 
