@@ -162,6 +162,18 @@ class OrderTest(unittest.TestCase):
                 found = between(first, second)
                 self.assertEqual([order(one, found), order(found, other)], [-1, -1])
 
+    def test_between_fractions(self):
+        luck = random.Random(99)
+        told = [(Fraction(-1, 2), Fraction(1, 2)), (Fraction(-1), Fraction(1)), (Fraction(-5, 2), Fraction(-1, 2)), (Fraction(0), Fraction(2))]
+        for _ in range(300):
+            one = Fraction(luck.randint(-40, 40), luck.randint(1, 12))
+            told.append((one, one + Fraction(luck.randint(1, 30), luck.choice([1, 2, 7, 10 ** 9]))))
+        for one, other in told:
+            pairs = [(each.numerator, each.denominator) for each in (one, other)]
+            for found in (between(*pairs), between(*reversed(pairs))):
+                self.assertIs(is_number(found), True)
+                self.assertTrue(one < Fraction(*found) < other)
+
     def test_between_numbers_next_to_one_another(self):
         for n in (-7, 0, 5):
             for one, other in (((n, 1), (n + 1, 1)), ((n * 10 ** 9 + 1, 10 ** 9), (n * 10 ** 9 + 3, 10 ** 9))):

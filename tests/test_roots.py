@@ -128,6 +128,15 @@ class RootsTest(unittest.TestCase):
         self.check_apart(row)
         self.assertEqual(count_roots((row[0] + 1,) + row[1:], None, None), 20)
 
+    def test_roots_close_to_0_and_far_off(self):
+        for many in (10, 10 ** 7, 10 ** 50, 10 ** 99):
+            for row in ((-2, 0, many), (-3, 1, many), (1, -many, 3, many * many), (-many, 1, 0, 2), (-7 * many, 0, 1), (1, many, 1, -3, 1)):
+                self.check_apart(row)
+                for each in roots_of(row):
+                    self.assertIs(is_number(each), True)
+        row = (-2, 0, 10 ** 91)
+        self.assertEqual([count_roots(row, (0, 1), (1, 10 ** 45)), count_roots(row, (0, 1), (1, 10 ** 46)), count_roots(row, None, None)], [1, 0, 2])
+
     def test_long_rows_of_long_numbers(self):
         luck = random.Random(74)
         for _ in range(5):
