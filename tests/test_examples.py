@@ -4,17 +4,23 @@ import doctest
 import pathlib
 import unittest
 
-TEXT = (pathlib.Path(__file__).resolve().parent / "examples.txt").read_text()
+HERE = pathlib.Path(__file__).resolve().parent
 
 
 class ExamplesTest(unittest.TestCase):
-    def test_all(self):
-        examples = doctest.DocTestParser().get_doctest(TEXT, {}, "examples", "examples.txt", 0)
-        self.assertGreaterEqual(len(examples.examples), 30)
+    def check(self, path, least):
+        examples = doctest.DocTestParser().get_doctest(path.read_text().replace("```", ""), {}, path.name, str(path), 0)
+        self.assertGreaterEqual(len(examples.examples), least)
         told = []
         runner = doctest.DocTestRunner(verbose=False)
         runner.run(examples, out=told.append)
         self.assertEqual(runner.failures, 0, "".join(told))
+
+    def test_interface(self):
+        self.check(HERE / "examples.txt", 30)
+
+    def test_readme(self):
+        self.check(HERE.parent / "README.md", 9)
 
 
 if __name__ == "__main__":

@@ -173,7 +173,7 @@ class LanguageTest(unittest.TestCase):
                 if name.startswith("__"):
                     self.assertIn(name, {"__init__"}, path.name)
         for where, node in self.each(ast.Name):
-            if hasattr(builtins, node.id):
+            if hasattr(builtins, node.id) and node.id != "_":
                 self.assertIn(node.id, BUILTINS, where)
 
     def test_statements_and_expressions(self):

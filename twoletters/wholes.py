@@ -84,7 +84,8 @@ def simplest_between(low, high):
         steps.append(floor)
         low_rest = low[0] - floor * low[1]
         high_rest = high[0] - floor * high[1]
-        low, high = (high[1], high_rest), (low[1], low_rest) if low_rest else None
+        turned = (low[1], low_rest) if low_rest else None
+        low, high = (high[1], high_rest), turned
     n = low[0] // low[1] + 1
     if not steps:
         n = whole_between(low, high)
