@@ -185,6 +185,30 @@ class NumbersOfFormsTest(unittest.TestCase):
         number, is_there = least_of((((0, 1), ROOT), (False, True, False, True, True)))
         self.assertEqual([number, is_there], [(0, 1), True])
 
+    def test_each_stretch_and_each_end_alone(self):
+        ends = ((BOTH, 0), BACK, (0, 1), LIKE, (3, 2))
+        for k in range(11):
+            form = made_form(ends, tuple(at == k for at in range(11)))
+            found = some_number(form)
+            self.assertEqual(order(found, parting_number(form, NOTHING)), 0)
+            self.assertIs(is_so_of(form, found), True)
+            if k % 2:
+                self.assertEqual(order(found, ends[k // 2]), 0)
+                number, is_there = least_of(form)
+                self.assertEqual([order(number, ends[k // 2]), is_there], [0, True])
+            else:
+                self.assertTrue(k == 0 or order(ends[k // 2 - 1], found) == -1)
+                self.assertTrue(k == 10 or order(found, ends[k // 2]) == -1)
+                if k:
+                    number, is_there = least_of(form)
+                    self.assertEqual([order(number, ends[k // 2 - 1]), is_there], [0, False])
+                else:
+                    self.assertIsNone(least_of(form))
+        for k in range(1, 11):
+            truths = tuple(at >= k for at in range(11))
+            number, is_there = least_of(made_form(ends, truths))
+            self.assertEqual([order(number, ends[(k - 1) // 2]), is_there], [0, k % 2 == 1])
+
     def test_so_of(self):
         form = ((BACK, (0, 1), LIKE), (False, True, True, False, True, False, False))
         self.assertEqual([is_so_of(form, number) for number in (BACK, LIKE_BACK, (0, 1), ROOT, LIKE)], [True, True, False, False, False])

@@ -249,6 +249,16 @@ class SumTest(unittest.TestCase):
         self.assertEqual([number_plus(ROOT, told_otherwise), number_times(told_otherwise, BACK)], [(0, 1), (2, 1)])
         self.assertEqual(number_times(CUBE, ((-4, 0, 0, 1), 0)), (2, 1))
 
+    def test_what_comes_to_be_a_fraction_that_is_not_whole(self):
+        half, eighth = (-1, 0, 2), (-1, 0, 8)
+        self.assertEqual([number_times((half, 1), (eighth, 1)), number_times((eighth, 0), (half, 1))], [(1, 4), (-1, 4)])
+        self.assertEqual([number_plus(((-1, -4, 4), 1), (half, 0)), number_plus((half, 1), ((-1, -4, 4), 0))], [(1, 2), (1, 2)])
+        for m in (3, 5, 1000):
+            # The first one is 1 / m and the root of 7.
+            one, other = ((1 - 7 * m * m, -2 * m, m * m), 1), ((-7, 0, 1), 0)
+            self.assertEqual([number_plus(one, other), number_plus(other, one)], [(1, m), (1, m)])
+            self.assertEqual(number_times(((-7, 0, m * m), 1), (times((-7, 0, 1), (1, 1)), 0)), (-7, m))
+
     def test_with_itself_and_with_0(self):
         for number in (ROOT, BACK, CUBE, (times(TWO, UNIT), 3)):
             self.assertEqual(order(number_plus(number, (0, 1)), number), 0)

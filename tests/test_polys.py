@@ -251,6 +251,16 @@ class LotTest(unittest.TestCase):
         self.assertEqual(core_of((((0, -1), (0, 0, 1)), ((2, 2), (-4,)))), poly_product(((-1,), (0, 1)), ((-1, -1), (2,))))
         self.assertEqual(core_of((CIRCLE, LINE)), core_of((LINE, CIRCLE, poly_product(CIRCLE, LINE))))
 
+    def test_parts_of_a_product_beside_it(self):
+        both, all_three = poly_product(CIRCLE, LINE), poly_product(poly_product(CIRCLE, LINE), HYPER)
+        self.assertEqual(core_of((both, LINE)), both)
+        self.assertEqual(core_of((LINE, both)), both)
+        self.assertEqual(core_of((all_three, LINE)), core_of((CIRCLE, LINE, HYPER)))
+        self.assertEqual(core_of((all_three, poly_product(LINE, LINE), both)), core_of((HYPER, LINE, CIRCLE)))
+        self.assertEqual(core_of((poly_product(both, LINE),)), both)
+        self.check_turns((both, LINE))
+        self.check_turns((all_three, poly_product(HYPER, LINE)))
+
     def check_turns(self, lot):
         found = turns_of(lot)
         core = core_of(lot)
