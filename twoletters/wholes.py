@@ -15,10 +15,8 @@ def is_fraction(value):
 
 
 def fraction_of(n, m):
-    """The fraction n / m, m being any whole number but 0."""
+    """The fraction n / m, m being above 0."""
     shared = gcd(n, m)
-    if m < 0:
-        shared = -shared
     return (n // shared, m // shared)
 
 
