@@ -6,6 +6,7 @@ import inspect
 import unittest
 
 from tests.naive import deep
+from tests.test_sayings import NO_SAYING
 from twoletters import errors
 
 TWO, UNIT, FOUR = (-2, 0, 1), (-1, 0, 1), (6, 0, -5, 0, 1)
@@ -37,6 +38,17 @@ NO_RELATION = ODD + ["Below", "not  at", "under", ("at",), ["at"]]
 NO_POLY = [value for value in ODD if value not in ((),)] + [
     (1,), ((1,), ()), ((1, 0),), ([1],), [(1,)], ((True,),), ((1,), (0,)), (((1,),),), ((1,), None), TWO, "ab",
 ]
+NO_LETTER = ODD[:6] + ["z", "X", "xy", "", ("x",), ["x"], b"x", 0, True, {}, deep(30)]
+NO_PLACE = NO_FRACTION + [
+    (ROOT, (CIRCLE, 0)), (ROOT, ((), 0)), (ROOT, (LINE, True)), (ROOT, (LINE, 1)), (ROOT, (LINE,)), [ROOT, (0, 1)], (ROOT, [0, 1]),
+    (ROOT, (2, 4)), ((TWO, 2), (0, 1)), ((0, 2), (0, 1)), (ROOT, ROOT), ((0, 1), (0, 1), (0, 1)), (ROOT, (((-2, 0, 1),), 0)), (ROOT, (list(LINE), 0)),
+]
+NO_TEXT = [value for value in ODD if not isinstance(value, str)]
+INSIDE, OVER = ("below", CIRCLE), ("not above", LINE)
+CLOSED = ("all", "x", ("some", "y", ("either", INSIDE, ("not", OVER))))
+SAYINGS = [INSIDE, ("both", INSIDE, ("not", OVER)), ("some", "y", INSIDE), CLOSED, ("true",), ("at", ()), ("not", ("at", ((10 ** 99,),)))]
+SENTENCES = [CLOSED, ("true",), ("some", "x", ("some", "y", INSIDE)), ("above", ((3,),)), ("at", ())]
+PLACES = [((0, 1), (0, 1)), (ROOT, (LINE, 0)), (((-1, 0, 2), 1), (CIRCLE, 1)), ((1, 2), (CIRCLE, 0)), (ROOT, (7, 5))]
 NUMBERS = [(0, 1), (-7, 3), ROOT, (FOUR, 2), (10 ** 99 + 1, 10 ** 99), ((-(10 ** 98), 0, 0, 1), 0)]
 KINDS = {
     "row": (errors.InvalidRow, [TWO, (), (5,), LONG, HUGE], NO_ROW),
@@ -49,6 +61,11 @@ KINDS = {
     "relation": (errors.InvalidRelation, ["below", "at", "above", "not below", "not at", "not above"], NO_RELATION),
     "poly": (errors.InvalidPoly, [CIRCLE, LINE, (), ((3,),), (TWO,), ((), (), LONG)], NO_POLY),
     "some poly": (errors.InvalidPoly, [CIRCLE, LINE, ((3,),), (TWO,)], NO_POLY + [()]),
+    "place": (errors.InvalidPlace, PLACES, NO_PLACE),
+    "saying": (errors.InvalidSaying, SAYINGS, ODD + NO_SAYING),
+    "closed saying": (errors.InvalidSaying, SENTENCES, ODD + NO_SAYING),
+    "sentence": (errors.InvalidSaying, SENTENCES, ODD + NO_SAYING + [INSIDE, ("some", "x", INSIDE), ("at", ((0, 1),))]),
+    "letter": (errors.InvalidLetter, ["x", "y"], NO_LETTER),
     "steep poly": (errors.InvalidPoly, [CIRCLE, LINE, ((), (0, 1))], NO_POLY + [(), ((3,),), (TWO,)]),
 }
 PAIR, ROW = [("row", "row"), ("other", "row")], [("row", "row")]
@@ -56,7 +73,23 @@ TWO_NUMBERS = [("number", "number"), ("other", "number")]
 TWO_POLYS = [("poly", "poly"), ("other", "poly")]
 TWO_FORMS = [("form", "form"), ("other", "form")]
 OVER = [("poly", "poly"), ("number", "number")]
+SAYING = [("saying", "saying")]
+TWO_SAYINGS = SAYING + [("other", "saying")]
 FUNCTIONS = {
+    "places": {"sign_at": [("poly", "poly"), ("place", "place")], "meets": TWO_POLYS},
+    "sayings": {
+        "depth_of": SAYING, "polys_of": SAYING, "free_letters": SAYING, "exchanged": SAYING, "pushed": SAYING,
+        "put_for": SAYING + [("letter", "letter"), ("fraction", "fraction")],
+    },
+    "truths": {
+        "is_true": [("sentence", "sentence")], "form_of": [("saying", "closed saying"), ("letter", "letter")],
+        "truth_at": SAYING + [("place", "place")], "some_place": SAYING, "are_alike": TWO_SAYINGS,
+        "parting_place": TWO_SAYINGS, "does_follow": TWO_SAYINGS, "breaking_place": TWO_SAYINGS,
+    },
+    "printer": {
+        "poly_text": [("poly", "poly")], "saying_text": SAYING, "number_text": [("number", "number")],
+        "form_text": [("letter", "letter"), ("form", "form")],
+    },
     "rows": {
         "plus": PAIR, "less": PAIR, "times": PAIR, "derivative": ROW, "prime_part": ROW, "common": PAIR,
         "value_at": [("row", "row"), ("fraction", "fraction")], "over": [("row", "row"), ("other", "some row")],
@@ -94,6 +127,9 @@ FUNCTIONS = {
 OTHERS = {
     "rows": ["is_row"], "numbers": ["is_number"], "signs": ["signs_by_roots", "signs_by_rests", "ends_of"],
     "forms": ["is_form", "made_form"], "polys": ["is_poly", "core_of", "turns_of"],
+    "stacks": ["stack_of", "fraction_on"], "places": ["is_place", "order_over", "fraction_over"],
+    "cells": ["cells_of", "how_many", "cell_of", "signs_on", "place_in", "is_within"], "sayings": ["is_saying"],
+    "words": ["words_of", "is_free_name"], "reader": ["read_saying", "read_scene", "read_book"],
 }
 # Degrees that are great for both arguments ask for far too much time where resultants are taken of them.
 SLOW = ("number_plus", "number_times", "number_in", "put_in")
@@ -171,7 +207,8 @@ class ConventionsTest(unittest.TestCase):
         self.assertEqual(caught.exception.given, [])
 
     def test_what_is_one_takes_any_value(self):
-        for module, kind in (("rows", "row"), ("numbers", "number"), ("forms", "form"), ("polys", "poly")):
+        kinds = (("rows", "row"), ("numbers", "number"), ("forms", "form"), ("polys", "poly"), ("places", "place"), ("sayings", "saying"))
+        for module, kind in kinds:
             function = getattr(importlib.import_module(f"twoletters.{module}"), f"is_{kind}")
             for value in KINDS[kind][1]:
                 self.assertIs(function(value), True, value)
@@ -202,13 +239,71 @@ class TuplesTest(unittest.TestCase):
         good = [(), (TWO,) * 6, ((), (3,)), (TWO, UNIT)]
         self.check([ends_of, signs_by_rests, signs_by_roots], "rows", errors.InvalidRows, good, wrong)
 
-    def test_polys(self):
-        from twoletters.polys import core_of, turns_of
+    def wrong_polys(self):
         wrong = [(value, None) for value in ODD if not isinstance(value, tuple)]
         wrong += [((LINE,) * 9, None), ((None,) * 9, None), ([LINE], None), ((LINE, [LINE], 5), 1), ((TWO,), 0)]
-        wrong += [((LINE, (), ((1,), ())), 2), (((), ((True,),)), 1), (deep(30), 0), ((CIRCLE,) * 7 + ("a",), 7)]
+        return wrong + [((LINE, (), ((1,), ())), 2), (((), ((True,),)), 1), (deep(30), 0), ((CIRCLE,) * 7 + ("a",), 7)]
+
+    def test_polys(self):
+        from twoletters.cells import cells_of, how_many
+        from twoletters.polys import core_of, turns_of
         good = [(), (LINE,) * 8, ((), ((3,),)), (CIRCLE, LINE)]
-        self.check([core_of, turns_of], "polys", errors.InvalidPolys, good, wrong)
+        self.check([core_of, turns_of, cells_of, how_many], "polys", errors.InvalidPolys, good, self.wrong_polys())
+
+    def test_polys_ahead_of_others(self):
+        from twoletters.cells import cell_of, is_within, place_in, signs_on
+        from twoletters.stacks import fraction_on, stack_of
+        lot, cell = (CIRCLE, LINE), (4, 3)
+        calls = [
+            (stack_of, {"polys": lot, "number": ROOT}), (fraction_on, {"polys": lot, "number": ROOT, "level": 2}),
+            (cell_of, {"polys": lot, "place": PLACES[2]}), (signs_on, {"polys": lot, "cell": cell}),
+            (place_in, {"polys": lot, "cell": cell}), (is_within, {"polys": lot, "cell": cell, "others": (LINE,)}),
+        ]
+        for function, named in calls:
+            self.assertEqual(list(inspect.signature(function).parameters), list(named))
+            before = copy.deepcopy(named)
+            self.assertEqual(repr(function(**dict(reversed(named.items())))), repr(function(*named.values())))
+            self.assertEqual(named, before)
+            for value, index in self.wrong_polys():
+                with self.assertRaises(errors.InvalidPolys, msg=f"{function.__name__} {value!r}") as caught:
+                    function(value, *[None] * (len(named) - 1))
+                self.assertEqual(caught.exception.index, index)
+
+    def test_the_number_ahead_of_the_level(self):
+        from twoletters.cells import cell_of
+        from twoletters.stacks import fraction_on, stack_of
+        for value in NO_NUMBER:
+            for function, rest in ((stack_of, ()), (fraction_on, (None,))):
+                with self.assertRaises(errors.InvalidNumber) as caught:
+                    function((LINE,), value, *rest)
+                self.assertIs(caught.exception.given, value)
+        for value in NO_PLACE:
+            with self.assertRaises(errors.InvalidPlace) as caught:
+                cell_of((LINE,), value)
+            self.assertIs(caught.exception.given, value)
+
+    def test_places_over_one_x(self):
+        from twoletters.places import fraction_over, order_over
+        for function in (order_over, fraction_over):
+            self.assertEqual(list(inspect.signature(function).parameters), ["place", "other"])
+            one, other = (ROOT, (LINE, 0)), (ROOT, (1, 2))
+            self.assertEqual(function(other=other, place=one), function(one, other))
+            for value in NO_PLACE:
+                for values in ((value, None), (one, value)):
+                    with self.assertRaises(errors.InvalidPlace) as caught:
+                        function(*values)
+                    self.assertIs(caught.exception.given, value)
+
+    def test_texts(self):
+        from twoletters.reader import read_book, read_saying, read_scene
+        from twoletters.words import words_of
+        for function, text in ((words_of, "a b"), (read_saying, "x < y"), (read_scene, "let a = x < 1; a"), (read_book, "let a = x < 1;")):
+            self.assertEqual(list(inspect.signature(function).parameters), ["text"])
+            self.assertEqual(function(text), function(text=text))
+            for value in NO_TEXT:
+                with self.assertRaises(errors.BadText) as caught:
+                    function(value)
+                self.assertIs(caught.exception.spot, None)
 
     def test_made_form(self):
         from twoletters.forms import made_form

@@ -6,6 +6,7 @@ from fractions import Fraction
 
 from tests import naive
 from twoletters.chains import poly_subresultants, subresultants
+from twoletters.curves import cuts, plainer, sides_of, told_sign
 from twoletters.points import GUARD, values_over
 from twoletters.rowgcd import parted
 from twoletters.rowwork import packed, row_rest, row_widened, unpacked
@@ -73,6 +74,33 @@ class HelpersTest(unittest.TestCase):
             for part in (0, 1, 2, 3):
                 value = naive.value(row, Fraction(3 * low + part, 3 * 2 ** bits)) * 2 ** (bits + GUARD)
                 self.assertTrue(least <= value <= most)
+
+    def test_signs_told_by_bounds(self):
+        many = 0
+        for _ in range(400):
+            size = self.luck.randint(1, 5)
+            bounds = [tuple(sorted(self.luck.randint(-9, 9) for _ in range(2))) for _ in range(size)]
+            n, bits = self.luck.randint(-9, 9), self.luck.randint(0, 3)
+            told = told_sign(sides_of(bounds), n, bits)
+            many += told != 0
+            values = [naive.value([self.luck.randint(low, high) for low, high in bounds], Fraction(n, 2 ** bits)) for _ in range(40)]
+            if told:
+                self.assertTrue(all(value * told > 0 for value in values))
+            corners = []
+            for end in (0, 1):
+                ends = [bound[end if n >= 0 or k % 2 == 0 else 1 - end] for k, bound in enumerate(bounds)]
+                corners.append(naive.value(ends, Fraction(n, 2 ** bits)))
+            self.assertEqual(told, 1 if corners[0] > 0 else -1 if corners[1] < 0 else 0)
+        self.assertTrue(50 < many < 350)
+
+    def test_numbers_between(self):
+        seen = set()
+        for tries in range(5):
+            found = [Fraction(n, 2 ** (5 + 3 + tries)) for n in cuts(-7, 4, tries)]
+            self.assertTrue(all(Fraction(-7, 32) < each < Fraction(4, 32) for each in found))
+            self.assertEqual(len(set(found) | seen), len(found) + len(seen))
+            seen |= set(found)
+        self.assertEqual([plainer(-8, 4, 5), plainer(-8, 4, 1), plainer(-3, 4, 5), plainer(0, 16, 2), plainer(0, 6, 9)], [(-2, 1, 3), (-4, 2, 0), (-3, 4, 5), (0, 4, 0), (0, 3, 8)])
 
     def test_parted(self):
         one, other, third = (-2, 0, 1), (-1, 1), (1, 0, 1)

@@ -130,6 +130,8 @@ class RootsTest(unittest.TestCase):
         self.assertEqual([many_common(CIRCLE, CIRCLE, HALF), many_common(NOUGHT, CIRCLE, ROOT), many_common(NOUGHT, LINE, ROOT)], [2, 0, 1])
         self.assertEqual([many_common(NOUGHT, (), ROOT), many_common((), (), (1, 2)), many_common((), LINE, (1, 2)), many_common(((3,),), LINE, ROOT)], [None, None, 1, 0])
         self.assertEqual([many_common(((3,),), ((4,),), ROOT), many_common(((3,),), ((4,),), (0, 1)), many_common((), ((4,),), ROOT)], [0, 0, 0])
+        three = poly_product(CIRCLE, LINE)
+        self.assertEqual([many_common(LINE, LINE, ROOT), many_common(three, three, HALF), many_common(three, poly_product(((0, -3),), three), (FOUR, 2)), many_common(three, CIRCLE, HALF)], [1, 2, 1, 2])
         # Both heads are 0 at the root of 2; what is left has the root 1 in common.
         one, other = ((-1,), (1,), TWO), ((1,), (-1,), (), TWO)
         self.assertEqual([many_common(one, other, ROOT), many_common(other, one, BACK), many_common(one, other, (FOUR, 1))], [1, 1, 1])

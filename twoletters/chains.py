@@ -91,6 +91,11 @@ def bits_for(one, other):
     return size.bit_length() + 2
 
 
+def as_constants(row):
+    """The row as a POLY of y."""
+    return tuple([(number,) if number else () for number in row])
+
+
 def packed_poly(poly, bits):
     return tuple([packed(row, bits) for row in poly])
 

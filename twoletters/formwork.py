@@ -40,16 +40,22 @@ def opened_form(value):
     return None if points is None else (points, truths)
 
 
-def form_told(points, truths):
-    """The form, needless ends left out."""
+def needed(points, truths):
+    """The points and the truths without needless ends."""
     kept = [truths[0]]
     ends = []
     for k, point in enumerate(points):
         if is_needed(truths, k):
-            ends.append(point.number)
+            ends.append(point)
             kept.append(truths[2 * k + 1])
             kept.append(truths[2 * k + 2])
-    return (tuple(ends), tuple(kept))
+    return ends, tuple(kept)
+
+
+def form_told(points, truths):
+    """The form, needless ends left out."""
+    ends, kept = needed(points, truths)
+    return (tuple([point.number for point in ends]), kept)
 
 
 def together(one, other):

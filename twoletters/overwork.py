@@ -1,15 +1,18 @@
 """POLYs over a point: their degree and their roots there.
 
-Sturm's row of a POLY at a point comes of the subresultants of it and it derived: those
-with indexes one below the degree of the one ahead are rests there, but for factors of
-which the sign is told by the heads. So nothing but signs of rows at the point is asked for.
+Sturm's row of a POLY at a point comes of the subresultants of it and it derived, its
+slope chain: those with indexes one below the degree of the one ahead are rests there,
+but for factors of which the sign is told by the heads. So nothing but signs of rows at
+the point is asked for.
 """
 
-from twoletters.chains import poly_subresultants
+from twoletters.chains import full_rest, poly_subresultants
 from twoletters.points import how_many_between, points_of
 from twoletters.polywork import poly_along, poly_at_x, poly_derived, poly_less, poly_scaled
 from twoletters.rowgcd import row_common
+from twoletters.rowwork import row_divided, row_scaled
 from twoletters.stretches import sign_changes
+from twoletters.wholes import power, shared_by
 
 
 def cut_at(poly, point):
@@ -20,9 +23,29 @@ def cut_at(poly, point):
     return poly[:size]
 
 
-def sturm_at(poly, point):
-    """Sturm's row at a point, pairs of a POLY and a sign, of a POLY that has its degree there, 1 at least."""
-    chain = poly_subresultants(poly, poly_derived(poly))
+def rests_at(poly, point):
+    """The POLY, times a number above 0, its rows put for their rests by the row of a point that is no fraction."""
+    half = point.half
+    longest = max([len(row) for row in poly])
+    if longest < len(half):
+        return poly
+    rows = []
+    for row in poly:
+        # Each step of a rest takes the head once: all rows take it equally often.
+        missing = longest - max(len(row), len(half) - 1)
+        rows.append(row_scaled(full_rest(row, half), power(half[-1], missing)))
+    shared = shared_by([shared_by(row) for row in rows])
+    return tuple([row_divided(row, shared) for row in rows])
+
+
+def slope_chain(poly):
+    """The subresultants of a POLY of degree 1 at least and it derived."""
+    slope = poly_derived(poly)
+    return poly_subresultants(poly, slope) if len(poly) > 2 else (slope, poly)
+
+
+def sturm_at(poly, chain, point):
+    """Sturm's row at a point, pairs of a POLY and a sign, of a POLY that has its degree there, of its slope chain."""
     found = [(poly, 1), (chain[-2], 1)]
     head = scale = 1
     last = cut_at(chain[-2], point)
@@ -73,27 +96,35 @@ def count_over(poly, point, low, high):
         return 0
     if point.exact:
         return how_many_between(points_of(poly_at_x(poly, point.exact)), low, high)
-    sturm = sturm_at(poly, point)
+    poly = rests_at(poly, point)
+    sturm = sturm_at(poly, slope_chain(poly), point)
     lower = changes_below_all(sturm, point) if low is None else changes_behind(sturm, point, low)
     upper = changes_above_all(sturm, point) if high is None else changes_behind(sturm, point, high)
     return lower - upper
 
 
-def common_over(poly, other, point):
-    """A POLY the roots of which at the point are those of both, of which neither is nought there."""
-    poly, other = cut_at(poly, point), cut_at(other, point)
-    if len(poly) < len(other):
-        poly, other = other, poly
+def divisor_chain(poly, other):
+    """Subresultants for what two POLYs, the first one being no shorter, have in common where its head is not 0."""
     if len(poly) == len(other):
         # Made shorter by the first one, the other one keeps the roots that it has in common with it.
-        other = cut_at(poly_less(poly_scaled(other, poly[-1]), poly_scaled(poly, other[-1])), point)
-    if not other:
-        return poly
-    chain = poly_subresultants(poly, other)
+        other = poly_less(poly_scaled(other, poly[-1]), poly_scaled(poly, other[-1]))
+    return poly_subresultants(poly, other) if other else ((),) * (len(poly) - 1) + (poly,)
+
+
+def divisor_of(chain, point):
+    """The first one that has its head at a point: what both have in common there."""
     low = 0
     while len(chain[low]) <= low or point.sign(chain[low][low]) == 0:
         low += 1
     return chain[low][:low + 1]
+
+
+def common_over(poly, other, point):
+    """A POLY the roots of which at the point are those of both, of which neither is nought there."""
+    poly, other = rests_at(cut_at(poly, point), point), rests_at(cut_at(other, point), point)
+    if len(poly) < len(other):
+        poly, other = other, poly
+    return poly if len(poly) == 1 else divisor_of(divisor_chain(poly, other), point)
 
 
 def count_common(poly, other, point):

@@ -4,8 +4,8 @@ from itertools import combinations
 
 from twoletters.chains import poly_resultant
 from twoletters.points import in_order, points_of_plain
-from twoletters.polywork import ONE, poly_bare, poly_common, poly_content, poly_derived, poly_discriminant
-from twoletters.polywork import poly_quotient, poly_times
+from twoletters.polywork import ONE, poly_bare, poly_common, poly_derived, poly_discriminant, poly_quotient
+from twoletters.polywork import poly_times
 from twoletters.rowgcd import parted
 
 
@@ -45,18 +45,21 @@ def lot_core(polys):
     return found
 
 
-def turn_rows(polys):
-    """Rows the roots of which are the turns."""
-    pieces = lot_pieces(polys)
-    rows = [poly_content(poly) for poly in polys if poly]
-    rows = rows + [piece[-1] for piece in pieces]
-    rows = rows + [poly_discriminant(piece) for piece in pieces if len(piece) > 2]
-    return rows + [poly_resultant(one, other) for one, other in combinations(pieces, 2)]
+def has_x(poly):
+    return max([len(row) for row in poly], default=0) > 1
 
 
-def turn_points(polys):
-    """The turns as points, ascending."""
+def turn_rows(contents, pieces):
+    """Rows the roots of which are the turns of a lot, told by its contents and its pieces."""
+    rows = contents + [piece[-1] for piece in pieces]
+    rows = rows + [poly_discriminant(piece) for piece in pieces if len(piece) > 2 and has_x(piece)]
+    pairs = [pair for pair in combinations(pieces, 2) if has_x(pair[0]) or has_x(pair[1])]
+    return rows + [poly_resultant(one, other) for one, other in pairs]
+
+
+def turn_points(contents, pieces):
+    """The turns of a lot, told by its contents and its pieces, as points, ascending."""
     found = []
-    for row in parted(turn_rows(polys)):
+    for row in parted(turn_rows(contents, pieces)):
         found = found + points_of_plain(row)
     return in_order(found)

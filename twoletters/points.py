@@ -28,7 +28,7 @@ class Point:
         self.low, self.high, self.bits = stretch
         self.low_sign = 0 if exact else sign_at_binary(row, self.low, self.bits)
 
-    def narrow(self, many):
+    def narrow(self, many=1):
         """Halve the stretch some times."""
         for _ in range(many):
             if self.high - self.low == 1:

@@ -2,7 +2,7 @@
 
 from twoletters.chains import poly_resultant
 from twoletters.errors import InvalidFraction, InvalidPoly, InvalidPolys
-from twoletters.pieces_of_lots import lot_core, turn_points
+from twoletters.pieces_of_lots import lot_core, lot_pieces, turn_points
 from twoletters.polywork import poly_at_x, poly_bare, poly_common, poly_content, poly_derived, poly_discriminant
 from twoletters.polywork import poly_exchanged, poly_plus, poly_times, poly_value
 from twoletters.rows import is_row
@@ -131,4 +131,5 @@ def core_of(polys):
 def turns_of(polys):
     """The turns of a lot, ascending NUMBERS."""
     check_polys(polys)
-    return tuple([point.number for point in turn_points(polys)])
+    contents = [poly_content(poly) for poly in polys if poly]
+    return tuple([point.number for point in turn_points(contents, lot_pieces(polys))])

@@ -2,18 +2,13 @@
 
 from math import comb, gcd
 
-from twoletters.chains import full_rest, poly_resultant
+from twoletters.chains import as_constants, full_rest, poly_resultant
 from twoletters.points import GUARD, compare, points_of, values_over
 from twoletters.rowwork import row_divided, row_prime, row_put_in, row_value, row_widened
 from twoletters.stretches import stretches_of
 from twoletters.wholes import fraction_of, fraction_product, fraction_sum, is_fraction, power, shared_by
 
 SQUARE = (0, 0, 1)
-
-
-def as_constants(row):
-    """The row as a POLY of y."""
-    return tuple([(number,) if number else () for number in row])
 
 
 def steps_row(row, k):
