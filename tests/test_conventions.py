@@ -58,6 +58,7 @@ KINDS = {
     "number": (errors.InvalidNumber, NUMBERS, NO_NUMBER),
     "form": (errors.InvalidForm, [((), (True,)), FORM, (((0, 1), (FOUR, 2)), (True, False, False, True, False))], NO_FORM),
     "many": (errors.InvalidCount, [1, 10 ** 6, 7], NO_MANY),
+    "count": (errors.InvalidCount, [0, 1, 10 ** 6], [value for value in NO_MANY if isinstance(value, bool) or value != 0]),
     "relation": (errors.InvalidRelation, ["below", "at", "above", "not below", "not at", "not above"], NO_RELATION),
     "poly": (errors.InvalidPoly, [CIRCLE, LINE, (), ((3,),), (TWO,), ((), (), LONG)], NO_POLY),
     "some poly": (errors.InvalidPoly, [CIRCLE, LINE, ((3,),), (TWO,)], NO_POLY + [()]),
@@ -75,6 +76,8 @@ TWO_FORMS = [("form", "form"), ("other", "form")]
 OVER = [("poly", "poly"), ("number", "number")]
 SAYING = [("saying", "saying")]
 TWO_SAYINGS = SAYING + [("other", "saying")]
+TWO_PLACES = SAYING + [("place", "place"), ("other", "place")]
+REGIONS_OF_SAYINGS = "cells_in closure_of inner_of rim_of is_open is_closed is_bounded dimension euler_number".split()
 FUNCTIONS = {
     "places": {"sign_at": [("poly", "poly"), ("place", "place")], "meets": TWO_POLYS},
     "sayings": {
@@ -86,6 +89,13 @@ FUNCTIONS = {
         "truth_at": SAYING + [("place", "place")], "some_place": SAYING, "are_alike": TWO_SAYINGS,
         "parting_place": TWO_SAYINGS, "does_follow": TWO_SAYINGS, "breaking_place": TWO_SAYINGS,
     },
+    "certificates": {
+        "certify_truth": [("sentence", "sentence")], "certify_form": [("saying", "closed saying"), ("letter", "letter")],
+        "certify_some": SAYING, "certify_alike": TWO_SAYINGS,
+    },
+    "regions": {name: SAYING for name in REGIONS_OF_SAYINGS},
+    "pieces": {"pieces_of": SAYING, "piece_at": SAYING + [("place", "place")], "holes_of": SAYING, "nesting_of": SAYING, "way_between": TWO_PLACES, "are_joined": TWO_PLACES},
+    "shadows": {"stretches_at": SAYING + [("number", "number")], "lines_with": SAYING + [("count", "count")]},
     "printer": {
         "poly_text": [("poly", "poly")], "saying_text": SAYING, "number_text": [("number", "number")],
         "form_text": [("letter", "letter"), ("form", "form")],
@@ -130,6 +140,10 @@ OTHERS = {
     "stacks": ["stack_of", "fraction_on"], "places": ["is_place", "order_over", "fraction_over"],
     "cells": ["cells_of", "how_many", "cell_of", "signs_on", "place_in", "is_within"], "sayings": ["is_saying"],
     "words": ["words_of", "is_free_name"], "reader": ["read_saying", "read_scene", "read_book"],
+    "certificates": ["certify_truth", "certify_form", "certify_some", "certify_alike", "sheet_of"], "checker": ["is_sheet", "accepts"],
+    "pictures": ["letters", "picture_bytes"], "console": ["run"],
+    "charts": ["full_lot", "chart_of", "goals_of", "dimension_of", "does_rim", "is_bounded_cell"],
+    "shadows": ["y_of", "exchanged_place"],
 }
 # Degrees that are great for both arguments ask for far too much time where resultants are taken of them.
 SLOW = ("number_plus", "number_times", "number_in", "put_in")

@@ -25,10 +25,10 @@ class ExamplesTest(unittest.TestCase):
         self.assertEqual(runner.failures, 0, "".join(told))
 
     def test_interface(self):
-        self.check(HERE / "examples.txt", 60)
+        self.check(HERE / "examples.txt", 100)
 
     def test_readme(self):
-        self.check(HERE.parent / "README.md", 9)
+        self.check(HERE.parent / "README.md", 30)
 
 
 if __name__ == "__main__":

@@ -5,6 +5,8 @@ import builtins
 import pathlib
 import unittest
 
+from twoletters import errors
+
 ROOT = pathlib.Path(__file__).resolve().parent.parent
 PACKAGE = ROOT / "twoletters"
 FILES = sorted(PACKAGE.rglob("*.py"))
@@ -179,10 +181,15 @@ class LanguageTest(unittest.TestCase):
     def test_statements_and_expressions(self):
         barred = (
             ast.Global, ast.AsyncFunctionDef, ast.Await, ast.Div, ast.MatMult, ast.AnnAssign, ast.Yield,
-            ast.YieldFrom, ast.With, ast.Try, ast.NamedExpr, ast.SetComp, ast.Set, ast.JoinedStr, ast.Starred,
+            ast.YieldFrom, ast.With, ast.NamedExpr, ast.SetComp, ast.Set, ast.JoinedStr, ast.Starred,
         )
         for where, node in self.each(barred):
             self.fail(f"{where}: {type(node).__name__}")
+        # Own errors alone are caught, each by its name.
+        for where, node in self.each(ast.Try):
+            self.assertEqual((node.orelse, node.finalbody), ([], []), where)
+            for handler in node.handlers:
+                self.assertTrue(hasattr(errors, handler.type.id), where)
         for where, node in self.each((ast.FunctionDef, ast.ClassDef)):
             self.assertEqual(node.decorator_list, [], where)
         for where, node in self.each(ast.Constant):

@@ -30,6 +30,8 @@ def is_so(code, signs, x_sides, y_sides):
     word = code[0]
     if word == "sign":
         return signs[code[1]] in code[2]
+    if word == "not":
+        return not is_so(code[1], signs, x_sides, y_sides)
     if word == "both":
         return is_so(code[1], signs, x_sides, y_sides) and is_so(code[2], signs, x_sides, y_sides)
     if word == "either":

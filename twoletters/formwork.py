@@ -1,6 +1,6 @@
 """Forms reckoned with: ascending points, and truths for all stretches and points in turn."""
 
-from twoletters.points import compare, opened
+from twoletters.points import compare, opened_by
 from twoletters.tables import fraction_in
 
 
@@ -9,8 +9,9 @@ def opened_ends(value):
     if not isinstance(value, tuple):
         return None
     found = []
+    known = {}
     for number in value:
-        point = opened(number)
+        point = opened_by(number, known)
         if point is None or (found and compare(found[-1], point) >= 0):
             return None
         found.append(point)

@@ -124,28 +124,32 @@ def points_of(row):
     return points_of_plain(row_plain(row))
 
 
-def is_plain(value):
-    """Whether a value is a plain row of degree 2 at least."""
+def is_long_row(value):
+    """Whether a value is a row of degree 2 at least, with a head above 0."""
     if not isinstance(value, tuple) or len(value) < 3:
         return False
-    if not all([is_whole(number) for number in value]) or value[-1] <= 0:
-        return False
-    return row_plain(value) == value
+    return all([is_whole(number) for number in value]) and value[-1] > 0
 
 
 def opened(value):
     """The point of a NUMBER; None for any other value."""
+    return opened_by(value, {})
+
+
+def opened_by(value, known):
+    """The point of a NUMBER; None for any other value. The roots of each row are found just once, and kept as known."""
     if is_fraction(value):
         return fraction_point(value)
     if not isinstance(value, tuple) or len(value) != 2:
         return None
     row, index = value
-    if not is_whole(index) or index < 0 or not is_plain(row) or index >= len(row) - 1:
+    if not is_whole(index) or index < 0 or not is_long_row(row) or index >= len(row) - 1:
         return None
-    found = points_of_plain(row)
-    if index >= len(found) or found[index].exact:
+    if row not in known:
+        known[row] = points_of_plain(row) if row_plain(row) == row else []
+    if index >= len(known[row]) or known[row][index].exact:
         return None
-    point = found[index]
+    point = known[row][index]
     point.number = value
     return point
 
@@ -208,8 +212,9 @@ def compare(one, other):
             if have_one_root(one, other):
                 return 0
             is_checked = True
-        one.narrow_to(other.bits + 4)
-        other.narrow_to(one.bits)
+        is_wider = (one.high - one.low) << other.bits > (other.high - other.low) << one.bits
+        wider = one if is_wider else other
+        wider.narrow(4)
 
 
 def in_order(points):

@@ -1,8 +1,8 @@
 """Sayings: nested tuples of relations of POLYs, not, both, either, all and some."""
 
-from twoletters.errors import InvalidLetter, InvalidSaying, TooMany
+from twoletters.errors import InvalidLetter, InvalidPolys, InvalidSaying, TooMany
 from twoletters.forms import RELATIONS
-from twoletters.polys import check_fraction, is_poly
+from twoletters.polys import MOST_POLYS, check_fraction, is_poly
 from twoletters.saywork import LETTERS, depth_in, free_in, says_exchanged, says_pushed, says_put, width_in_x
 
 DEEPEST = 10
@@ -13,6 +13,14 @@ MOST_DEGREE = 4
 def is_small_poly(value):
     """Whether a value is a POLY of a degree up to 4 in each letter."""
     return is_poly(value) and len(value) <= MOST_DEGREE + 1 and width_in_x(value) <= MOST_DEGREE + 1
+
+
+def check_small_polys(polys):
+    if not isinstance(polys, tuple) or len(polys) > MOST_POLYS:
+        raise InvalidPolys(None)
+    for index, poly in enumerate(polys):
+        if not is_small_poly(poly):
+            raise InvalidPolys(index)
 
 
 def is_letter(value):

@@ -14,20 +14,29 @@ def check_both(saying, other):
     check_saying(other)
 
 
-def is_true(sentence):
-    """Whether a sentence is so of all real numbers."""
+def check_sentence(sentence):
     check_saying(sentence)
     if free_in(sentence):
         raise InvalidSaying(sentence)
+
+
+def check_form_of(saying, letter):
+    """A letter is refused, too, if the other one is free."""
+    check_saying(saying)
+    check_letter(letter)
+    if OTHER[letter] in free_in(saying):
+        raise InvalidLetter(letter)
+
+
+def is_true(sentence):
+    """Whether a sentence is so of all real numbers."""
+    check_sentence(sentence)
     return smoothed(kernel_of(sentence), False) == TRUE
 
 
 def form_of(saying, letter):
     """The form that is so of a number as the saying is with it for the letter."""
-    check_saying(saying)
-    check_letter(letter)
-    if OTHER[letter] in free_in(saying):
-        raise InvalidLetter(letter)
+    check_form_of(saying, letter)
     points, truths = form_in(kernel_of(saying), letter)
     return form_told(points, truths)
 
