@@ -295,7 +295,8 @@ class PinsTest(unittest.TestCase):
             (((0, 1), ((0, 1), (1, 1), RING)), False), (((0, 1), ((-2, 1), (2, 1), RING)), False), (((0, 1), ((2, 1), (3, 1), RING)), False), (((3, 1), (low, high, RING)), False),
             (((1, 1), ((-1, 1), (1, 1), RING)), True), (((1, 1), ((0, 1), (1, 1), RING)), False), (((0, 1), (low, high, SLANT)), False), (((1, 1), (low, high, SLANT)), True),
             (((0, 1), (high, low, RING)), False), (((0, 1), (low, low, RING)), False), (((0, 1), (low, high, ())), False), (((0, 1), (low, high, ((5,),))), False),
-            (((0, 1), (low, high, ((0, 1),))), False), ((ROOT, ((1, 1), (2, 1), LINE)), True), ((ROOT, ((1, 1), (7, 5), LINE)), False), ((ROOT, ((7, 5), (3, 2), LINE)), True),
+            (((0, 1), ((1, 1), (3, 1), poly("(y - 1)*(y - 2)"))), False), (((0, 1), ((0, 1), (2, 1), poly("(y - 1)*(y - 2)"))), False), (((0, 1), ((0, 1), (3, 2), poly("(y - 1)*(y - 2)"))), True),
+            ((ROOT, ((0, 1), (2, 1), poly("(y - x)*(y - 2)"))), False), ((ROOT, ((0, 1), (2, 1), poly("(y - x)*y"))), False), (((0, 1), (low, high, ((0, 1),))), False), ((ROOT, ((1, 1), (2, 1), LINE)), True), ((ROOT, ((1, 1), (7, 5), LINE)), False), ((ROOT, ((7, 5), (3, 2), LINE)), True),
             ((ROOT, ((-3, 2), (3, 2), poly("y^2 - x^2"))), False), ((ROOT, ((0, 1), (3, 2), poly("(y - x)^2*(y + 3)"))), True), ((ROOT, ((1, 1), (2, 1), poly("(y - x)*(x^2 - 2)"))), False),
         ):
             self.assertIs(accepts(("some", ("true",)), (pin, ())), truth, pin)
@@ -355,6 +356,15 @@ class PinsTest(unittest.TestCase):
             (((0, 1), ((3, 2), (2, 1), poly("5*y - 8"))), False), (((0, 1), (third, (4, 3), line)), True), (((0, 1), ((-2, 1), (4, 3), line)), None),
             ((ROOT, ((1, 1), (2, 1), LINE)), False), ((ROOT, ((1, 1), (2, 1), poly("x*y - 2"))), False),
         ):
+            truths = [accepts(("some", each), (pin, paper)) for each in (saying, ("not", saying))]
+            self.assertEqual(truths, [truth is True, truth is False], pin)
+            self.assertEqual([naive_paper.accepts(("some", each), (pin, paper)) for each in (saying, ("not", saying))], truths)
+        # Ends that are fractions: y up to them, and from them on, at a pin that ends there.
+        saying = text("some x: x^2 + y^2 <= 1")
+        claim, paper = certify_form(saying, "y")
+        half = poly("2*y - 1")
+        for pin, truth in ((((0, 1), ((0, 1), (1, 1), half)), True), (((0, 1), ((-1, 1), (1, 1), half)), None), (((0, 1), ((-1, 2), (1, 1), half)), True), (((0, 1), ((1, 1), (2, 1), poly("2*y - 3"))), None),
+                           (((0, 1), ((5, 4), (2, 1), poly("2*y - 3"))), False), (((0, 1), ((-3, 1), (-1, 1), poly("y + 2"))), False), (((0, 1), ((1, 2), (2, 1), poly("y - 1"))), True)):
             truths = [accepts(("some", each), (pin, paper)) for each in (saying, ("not", saying))]
             self.assertEqual(truths, [truth is True, truth is False], pin)
             self.assertEqual([naive_paper.accepts(("some", each), (pin, paper)) for each in (saying, ("not", saying))], truths)

@@ -176,6 +176,12 @@ class BadTest(unittest.TestCase):
         self.check((slant,), ((), (slant,), ((1, (), (1,)),), ends, ((-1, 1), (1, 1)), stacks))
         self.assertIs(is_sheet((slant,), (((0, 1),), (LINE,), ((1, (1,), (1,)),), ends, ((-1, 1), (1, 1)), stacks)), True)
 
+    def test_the_ends_of_last_rows(self):
+        self.check((HYPER,), HYPER_SHEET[:3] + ((), ((0, 1),), (((0, 1),),)))
+        self.check((HYPER,), HYPER_SHEET[:3] + ((), ((1, 1),), (((0, 1), (2, 1)),)))
+        steep = poly("x*y^2 - 1")
+        self.check((steep,), ((), (steep,), ((1, (), (1,)),), (), ((-1, 1),), (((0, 1),),)))
+
     def test_ends(self):
         for ends in (((-1, 1),), ((-1, 1), ROOT), ((1, 1), (-1, 1)), ((-1, 1), (1, 1), (1, 1)), ((-1, 1), (2, 2)), ((-1, 1), [1, 1]), ((-1, 1), 1),
                      (((-1, 0, 1), 0), (1, 1)), (((-1, 1), 0), (1, 1)), ((-1, 1), (True, 1)), ((-1, 1), (TWO, 2)), ((-1, 1), (1, 2), (1, 1))):

@@ -70,7 +70,7 @@ class Case:
         """- 1, 0 or 1 for each end of a form of x, as a point is below, at or above it."""
         return [compare(point, end) for end in self.x_ends]
 
-    def truths_over(self, point, signs):
+    def truths_by(self, point, signs):
         """The truths on all levels over a point, the signs there being told."""
         x_sides = self.x_sides(point)
         y_levels = self.y_levels(signs)

@@ -20,7 +20,7 @@ def checked_chart(saying):
 
 
 def check_cell(chart, cell):
-    if not is_pair(cell) or not chart.has_cell(cell[0], cell[1]):
+    if not is_pair(cell) or not chart.has_cell(cell):
         raise InvalidCell(cell)
 
 
@@ -33,12 +33,19 @@ def full_lot(polys):
 def chart_of(saying):
     """The full lot, the ends, the stacks, and the truths on all cells."""
     chart = checked_chart(saying)
-    return (chart.polys, chart.told_ends(), chart.told_stacks(), tuple(chart.truths))
+    stacks = []
+    for k in chart.all_columns():
+        column = chart.strip_over(k)
+        signs = chart.signs_on(k)
+        stacks.append((column.point.number, column.told_sections(signs), signs))
+    ends = tuple([turn.number for turn in chart.turns])
+    return (chart.polys, ends, tuple(stacks), tuple([chart.truths_on(k) for k in chart.all_columns()]))
 
 
 def goals_of(saying):
     """For each turn the goals of the sections below it, and of those above it."""
-    return tuple(checked_chart(saying).find_goals())
+    chart = checked_chart(saying)
+    return tuple([chart.goals_to(k) for k in range(len(chart.turns))])
 
 
 def dimension_of(cell):

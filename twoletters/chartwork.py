@@ -14,64 +14,82 @@ def lot_filled(polys):
 
 
 class Chart:
-    """The cells of a kernel."""
+    """The cells of a kernel. What is over a column is found when it is asked for, and kept."""
 
     def __init__(self, kernel):
-        case = Case(kernel)
-        self.polys = lot_filled(case.lot)
+        self.case = Case(kernel)
+        self.polys = lot_filled(self.case.lot)
         self.lot = Lot(self.polys, [])
         self.turns = self.lot.find_turns()
-        self.strips = [Column(self.lot, column_point(self.turns, k)) for k in range(2 * len(self.turns) + 1)]
-        self.levels = [column.signs() for column in self.strips]
-        self.truths = [case.truths_over(column.point, signs) for column, signs in zip(self.strips, self.levels)]
-        self.goals = []
+        self.strips = {}
+        self.levels = {}
+        self.truths = {}
+        self.goals = {}
 
-    def told_ends(self):
-        return tuple([turn.number for turn in self.turns])
+    def all_columns(self):
+        return list(range(2 * len(self.turns) + 1))
 
-    def told_stacks(self):
-        found = []
-        for column, signs in zip(self.strips, self.levels):
-            found.append((column.point.number, column.told_sections(signs), signs))
-        return tuple(found)
+    def strip_over(self, k):
+        """What the lot is over column k."""
+        if k not in self.strips:
+            self.strips[k] = Column(self.lot, column_point(self.turns, k))
+        return self.strips[k]
 
-    def find_goals(self):
-        """For each turn the goals of the sections below it, and of those above it."""
-        if not self.goals:
-            curves = [piece.poly for piece in self.lot.pieces]
-            for k in range(len(self.turns)):
-                column = self.strips[2 * k + 1]
-                marks = [column.fraction_on(2 * at) for at in range(len(column.sections) + 1)]
-                self.goals.append(goals_at(curves, self.turns, k, marks))
-        return self.goals
+    def signs_on(self, k):
+        """The signs of the full lot on all levels over column k."""
+        if k not in self.levels:
+            self.levels[k] = self.strip_over(k).signs()
+        return self.levels[k]
 
-    def has_cell(self, k, level):
-        return k < len(self.truths) and level < len(self.truths[k])
+    def top(self, k):
+        """The uppermost level over column k."""
+        return 2 * len(self.strip_over(k).sections)
+
+    def truths_on(self, k):
+        """The truths on all levels over column k."""
+        if k not in self.truths:
+            self.truths[k] = self.case.truths_by(self.strip_over(k).point, self.signs_on(k))
+        return self.truths[k]
+
+    def goals_to(self, k):
+        """The goals at turn k of the sections below it, and of those above it."""
+        if k not in self.goals:
+            column = self.strip_over(2 * k + 1)
+            marks = [column.fraction_on(2 * at) for at in range(len(column.sections) + 1)]
+            self.goals[k] = goals_at([piece.poly for piece in self.lot.pieces], self.turns, k, marks)
+        return self.goals[k]
+
+    def has_cell(self, cell):
+        """Whether a pair of whole numbers from 0 on is a cell."""
+        return cell[0] <= 2 * len(self.turns) and cell[1] <= self.top(cell[0])
+
+    def is_in(self, cell):
+        """Whether the kernel is so on a cell."""
+        return self.truths_on(cell[0])[cell[1]]
 
     def all_cells(self):
         """All cells, ascending."""
-        return [(k, level) for k, truths in enumerate(self.truths) for level in range(len(truths))]
+        return [(k, level) for k in self.all_columns() for level in range(self.top(k) + 1)]
 
-    def cells_so(self, truth):
-        """The cells that have this truth, ascending."""
-        return [cell for cell in self.all_cells() if self.truths[cell[0]][cell[1]] == truth]
+    def cells_in(self):
+        """The cells on which the kernel is so, ascending."""
+        return [cell for cell in self.all_cells() if self.is_in(cell)]
 
     def goals_beside(self, k):
         """For each turn beside column k, which is none, its column and the goals there."""
         found = []
         if k > 0:
-            found.append((k - 1, self.find_goals()[k // 2 - 1][1]))
-        if k + 1 < len(self.truths):
-            found.append((k + 1, self.find_goals()[k // 2][0]))
+            found.append((k - 1, self.goals_to(k // 2 - 1)[1]))
+        if k < 2 * len(self.turns):
+            found.append((k + 1, self.goals_to(k // 2)[0]))
         return found
 
     def goal_stretch(self, k, level, turn, goals):
         """The goals at a turn of what is below and above a cell over column k, which is none; of a section, twice."""
-        top = len(self.truths[turn])
         if level % 2:
             return goals[level // 2], goals[level // 2]
         low = goals[level // 2 - 1] if level > 0 else -1
-        high = goals[level // 2] if level + 1 < len(self.truths[k]) else top
+        high = goals[level // 2] if level < self.top(k) else self.top(turn) + 1
         return low, high
 
     def rims_of(self, cell):
@@ -79,17 +97,17 @@ class Chart:
         k, level = cell
         found = []
         if level % 2 == 0:
-            found = [(k, beside) for beside in (level - 1, level + 1) if 0 <= beside < len(self.truths[k])]
+            found = [(k, beside) for beside in (level - 1, level + 1) if 0 <= beside <= self.top(k)]
         if k % 2 == 0:
             for turn, goals in self.goals_beside(k):
                 low, high = self.goal_stretch(k, level, turn, goals)
-                for beside in range(max(low, 0), min(high + 1, len(self.truths[turn]))):
+                for beside in range(max(low, 0), min(high, self.top(turn)) + 1):
                     found.append((turn, beside))
         return found
 
     def is_bounded(self, cell):
         k, level = cell
-        if level % 2 == 0 and (level == 0 or level + 1 == len(self.truths[k])):
+        if level % 2 == 0 and (level == 0 or level == self.top(k)):
             return False
         if k % 2:
             return True
@@ -98,6 +116,6 @@ class Chart:
             return False
         for turn, goals in beside:
             low, high = self.goal_stretch(k, level, turn, goals)
-            if low < 0 or high >= len(self.truths[turn]):
+            if low < 0 or high > self.top(turn):
                 return False
         return True

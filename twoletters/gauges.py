@@ -57,7 +57,7 @@ class Gauge:
         self.row = None if has_x(poly) else poly_exchanged(poly)[0]
         self.points = [] if has_x(poly) else points_of(self.row)
 
-    def measure(self, point, fractions):
+    def measured(self, point, fractions):
         """The measure over a point at ascending fractions; None if the POLY is nought there."""
         if self.row is not None:
             return measure_by(self.row, self.points, fractions)

@@ -162,21 +162,32 @@ def form_in(kernel, letter):
     return shadow_of(smoothed(kernel, False))
 
 
-def led_away(word, letter, kernel):
-    """The kernel of all or some of a kernel."""
+def led_away_alone(word, letter, kernel):
+    """The kernel of all or some of a kernel in which not both letters are free; None if both are."""
     free = free_in(kernel)
     if letter not in free:
         return kernel
-    if free == (letter,):
-        truths = form_in(kernel, letter)[1]
-        return truth_word(all(truths) if word == "all" else any(truths))
+    if len(free) == 2:
+        return None
+    truths = form_in(kernel, letter)[1]
+    return truth_word(all(truths) if word == "all" else any(truths))
+
+
+def form_kernel(letter, form):
+    """The kernel that is so where an opened form of a letter is."""
+    return ("form", letter, form) if form[0] else truth_word(form[1][0])
+
+
+def led_away(word, letter, kernel):
+    """The kernel of all or some of a kernel."""
+    alone = led_away_alone(word, letter, kernel)
+    if alone is not None:
+        return alone
     if letter == "x":
         kernel = says_exchanged(kernel)
     is_all = word == "all"
     form = shadow_of(smoothed(kernel, is_all))
-    if is_all:
-        form = opposite_form(form)
-    return ("form", OTHER[letter], form) if form[0] else truth_word(form[1][0])
+    return form_kernel(OTHER[letter], opposite_form(form) if is_all else form)
 
 
 def led_away_at_once(word, kernel):

@@ -6,25 +6,21 @@ a paper.
 
 from twoletters.cases import Case
 from twoletters.formwork import needed
-from twoletters.kernels import form_in, smoothed, truth_word
-from twoletters.saywork import OTHER, free_in, says_exchanged
+from twoletters.kernels import form_kernel, led_away_alone, smoothed
+from twoletters.saywork import OTHER, says_exchanged
 
 
 def led_away_by(source, word, letter, kernel):
     """The kernel of all or some of a kernel; None if the sheet for it is missing."""
-    free = free_in(kernel)
-    if letter not in free:
-        return kernel
-    if free == (letter,):
-        truths = form_in(kernel, letter)[1]
-        return truth_word(all(truths) if word == "all" else any(truths))
+    alone = led_away_alone(word, letter, kernel)
+    if alone is not None:
+        return alone
     case = Case(says_exchanged(kernel) if letter == "x" else kernel)
     sheet = source.sheet_for(case.lot)
     if sheet is None:
         return None
     truths = [all(each) if word == "all" else any(each) for each in sheet.truths_of(case)]
-    form = needed(sheet.ends, truths)
-    return ("form", OTHER[letter], form) if form[0] else truth_word(form[1][0])
+    return form_kernel(OTHER[letter], needed(sheet.ends, truths))
 
 
 def kernel_by(source, saying):

@@ -10,7 +10,7 @@ from twoletters.wholes import is_whole
 
 def pieces_in(chart):
     """The pieces of the region of a chart."""
-    return pieces_among(chart, chart.cells_so(True))
+    return pieces_among(chart, chart.cells_in())
 
 
 def check_index(pieces, index):
@@ -31,11 +31,6 @@ def cell_at(chart, place):
     return located(chart.polys, chart.turns, place)
 
 
-def is_in(chart, cell):
-    """Whether a cell is one of the region."""
-    return chart.truths[cell[0]][cell[1]]
-
-
 def index_of_piece(pieces, cell):
     """The index of the piece that has a cell; None."""
     for index, piece in enumerate(pieces):
@@ -46,7 +41,7 @@ def index_of_piece(pieces, cell):
 
 def place_on(chart, cell):
     """A PLACE in a cell."""
-    column = chart.strips[cell[0]]
+    column = chart.strip_over(cell[0])
     return (column.point.number, y_on(chart.polys, column, cell[1]))
 
 
@@ -103,15 +98,15 @@ def way_between(saying, place, other):
     one = checked_place(place)
     two = checked_place(other)
     first, last = cell_at(chart, one), cell_at(chart, two)
-    if not is_in(chart, first) or not is_in(chart, last):
+    if not chart.is_in(first) or not chart.is_in(last):
         return None
-    return way_among(chart, chart.cells_so(True), first, last)
+    return way_among(chart, chart.cells_in(), first, last)
 
 
 def holes_of(saying):
     """The bounded pieces of the opposite."""
     chart = checked_chart(saying)
-    return holes_in(chart, chart.cells_so(True))
+    return holes_in(chart, chart.cells_in())
 
 
 def holes_of_piece(saying, index):

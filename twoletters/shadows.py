@@ -68,7 +68,7 @@ def easiest_cell(piece):
 def shadow_on_x(chart, piece):
     """The form of x that is so of the numbers of the columns in which a piece has cells."""
     columns = {cell[0]: True for cell in piece}
-    return form_told(chart.turns, [k in columns for k in range(2 * len(chart.turns) + 1)])
+    return form_told(chart.turns, [k in columns for k in chart.all_columns()])
 
 
 def exchanged_piece(kernel, place):
@@ -102,7 +102,7 @@ def stretches_at(saying, number):
     """How many stretches the cut at a number has."""
     chart = checked_chart(saying)
     point = checked_number(number)
-    return many_stretches(chart.truths[index_of_column(chart.turns, point)])
+    return many_stretches(chart.truths_on(index_of_column(chart.turns, point)))
 
 
 def lines_with(saying, count):
@@ -110,4 +110,4 @@ def lines_with(saying, count):
     chart = checked_chart(saying)
     if not is_whole(count) or count < 0 or count > MOST:
         raise InvalidCount(count)
-    return form_told(chart.turns, [many_stretches(truths) == count for truths in chart.truths])
+    return form_told(chart.turns, [many_stretches(chart.truths_on(k)) == count for k in chart.all_columns()])

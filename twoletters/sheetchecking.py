@@ -101,7 +101,7 @@ def are_ascending(value):
 
 def is_one_root(here, point, low, high):
     """Whether POLYs, each with a root over a point between two fractions, and none at these, have just one in all."""
-    return here != [] and all([do_share(here[0], other, point, low, high) for other in here[1:]])
+    return len(here) > 0 and all([do_share(here[0], other, point, low, high) for other in here[1:]])
 
 
 def levels_over(gauges, point, fractions):
@@ -110,7 +110,7 @@ def levels_over(gauges, point, fractions):
         return None
     measures = []
     for gauge in gauges:
-        found = gauge.measure(point, fractions)
+        found = gauge.measured(point, fractions)
         if found is None or not found.holds_all():
             return None
         measures.append(found)

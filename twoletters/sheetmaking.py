@@ -23,9 +23,8 @@ def product_of(part, rows, many):
     for k, power in powers:
         others[k] = power
     prime = row_prime(row)
-    beside = [1 if len(row) > 1 and each == prime else 0 for each in rows]
-    whole = row[-1] // prime[-1] if row else 0
-    return (whole if len(row) > 1 or not row else row[0], tuple(beside), tuple(others))
+    beside = [1 if each == prime else 0 for each in rows]
+    return (row[-1] // prime[-1] if row else 0, tuple(beside), tuple(others))
 
 
 def fractions_on(column):

@@ -16,7 +16,7 @@ class Sheet:
 
     def truths_of(self, case):
         """The truths of a kernel of the sheet's lot, for each column, on all levels."""
-        return [case.truths_over(point, signs) for point, signs in self.strips]
+        return [case.truths_by(point, signs) for point, signs in self.strips]
 
 
 def sign_of_product(product, row_signs, poly_signs):
